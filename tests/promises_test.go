@@ -11,18 +11,24 @@ import (
 
 // A call is a function with its arguments; it returns its results as a text.
 type call struct {
-	name string
-	run  func() string
+	run       func() string
+	name      string
+	arguments []any
 }
 
 func callOf(run func() string, name string, arguments ...any) call {
-	return call{name + fmt.Sprintf("%q", fmt.Sprint(arguments...)), run}
+	return call{run, name, arguments}
+}
+
+func (c call) title() string {
+	return fmt.Sprintf("%s(%q)", c.name, fmt.Sprint(c.arguments...))
 }
 
 var texts = []string{
 	"", " ", "-", "/", "a", "pell-3", "abcdefghijkl", "abcdefghijklm", "0", "-0", "-12", "007", "999999999999999999",
 	"1000000000000000000", "-9223372036854775808", "1/2", "-5/3", "4/2", "1/0", "1/2/3", "  a  b ", "\xff\x00 \xc3",
-	"é\u0120", strings.Repeat("9", 1<<12), strings.Repeat("a b ", 1<<10),
+	"é\u0120", strings.Repeat("9", 1<<12), strings.Repeat("a b ", 1<<10), "[2; 1, 4, 3]", "[-1]", "[1; 0]", "[; ]",
+	"[1; " + strings.Repeat("1, ", 1<<10) + "1]",
 }
 
 func callsOfBasics() []call {
@@ -37,7 +43,8 @@ func callsOfBasics() []call {
 			callOf(func() string { return fmt.Sprint(impl.IsName(s)) }, "IsName", s),
 			callOf(func() string { return fmt.Sprint(impl.ReadDecimal(s)) }, "ReadDecimal", s),
 			callOf(func() string { return fmt.Sprintf("%q", impl.SplitWords(s)) }, "SplitWords", s),
-			callOf(func() string { return fmt.Sprint(impl.ReadFraction(s)) }, "ReadFraction", s))
+			callOf(func() string { return fmt.Sprint(impl.ReadFraction(s)) }, "ReadFraction", s),
+			callOf(func() string { return fmt.Sprint(impl.ReadTerms(s)) }, "ReadTerms", s))
 	}
 	return list
 }
@@ -68,27 +75,76 @@ func callsOfFractions() []call {
 	return list
 }
 
+// listFunctions are the functions of one list of numbers; each returns its results as a text.
+func listFunctions() map[string]func(list []int64) string {
+	return map[string]func(list []int64) string{
+		"ValidTerms":    func(list []int64) string { return fmt.Sprint(impl.ValidTerms(list)) },
+		"ValueOfTerms":  func(list []int64) string { return fmt.Sprint(impl.ValueOfTerms(list)) },
+		"ConvergentsOf": func(list []int64) string { return fmt.Sprint(impl.ConvergentsOf(list)) },
+		"OtherForm":     func(list []int64) string { return fmt.Sprint(impl.OtherForm(list)) },
+		"ContinuantOf":  func(list []int64) string { return fmt.Sprint(impl.ContinuantOf(list)) },
+		"SumOfTerms":    func(list []int64) string { return fmt.Sprint(impl.SumOfTerms(list)) },
+		"TermsText":     func(list []int64) string { return impl.TermsText(list) },
+	}
+}
+
+// listPairFunctions are the functions of two lists of numbers.
+func listPairFunctions() map[string]func(a, b []int64) string {
+	return map[string]func(a, b []int64) string{
+		"CompareTerms": func(a, b []int64) string { return fmt.Sprint(impl.CompareTerms(a, b)) },
+		"CommonTerms":  func(a, b []int64) string { return fmt.Sprint(impl.CommonTerms(a, b)) },
+	}
+}
+
+// someLists are terms of all kinds, and lists that are not terms.
+func someLists() [][]int64 {
+	lists := slices.Concat(smallTerms(3), longTerms()[:60], mixedTerms(30), noTerms()[:40])
+	for _, n := range wide {
+		lists = append(lists, []int64{n}, []int64{1, n}, []int64{n, n, n}, repeated(60, n), repeated(200, n))
+	}
+	return lists
+}
+
+func callsOfExpansions() []call {
+	var list []call
+	for _, f := range wideFractions() {
+		list = append(list, callOf(func() string { return fmt.Sprint(impl.ExpandFraction(f)) }, "ExpandFraction", f))
+	}
+	lists := someLists()
+	for _, a := range lists {
+		for name, run := range listFunctions() {
+			list = append(list, callOf(func() string { return run(a) }, name, a))
+		}
+		for _, b := range lists {
+			for name, run := range listPairFunctions() {
+				list = append(list, callOf(func() string { return run(a, b) }, name, a, b))
+			}
+		}
+	}
+	return list
+}
+
 // result is what a call returns, or that it panics.
 func (c call) result(t *testing.T) (text string) {
 	defer func() {
 		if p := recover(); p != nil {
-			t.Fatalf("%s panics: %v", c.name, p)
+			t.Fatalf("%s panics: %v", c.title(), p)
 		}
 	}()
 	return c.run()
 }
 
-// TestPromise1 calls each function of the chapters 1 and 2 for all kinds of arguments, and once more in the opposite
+// TestPromise1 calls each function of the chapters 1 to 3 for all kinds of arguments, and once more in the opposite
 // order: no call panics, and none depends on the calls before it.
 func TestPromise1(t *testing.T) {
-	calls := slices.Concat(callsOfBasics(), callsOfFractions())
+	calls := slices.Concat(callsOfBasics(), callsOfFractions(), callsOfExpansions())
 	results := make([]string, len(calls))
 	for i, c := range calls {
 		results[i] = c.result(t)
 	}
 	for i, c := range slices.Backward(calls) {
 		if again := c.result(t); again != results[i] {
-			t.Fatalf("%s returns %s at first, and then %s", c.name, results[i], again)
+			t.Fatalf("%s returns %s at first, and then %s", c.title(), results[i], again)
 		}
 	}
 }
@@ -104,6 +160,88 @@ func TestPromise1NewSlices(t *testing.T) {
 	if !slices.Equal(second, want) || !slices.Equal(impl.SplitWords(text), want) || text != " one two  three " {
 		t.Errorf("a changed result changes others: %q", second)
 	}
+}
+
+// withSpare is a list with unused capacity, and the whole memory that it lies in.
+func withSpare(list []int64) (given, memory []int64) {
+	memory = append(slices.Clone(list), 77, 77, 77)
+	return memory[:len(list)], memory
+}
+
+// TestPromise1Lists looks at the memory of each list behind a call, also behind its end.
+// Lists that are equal, but nil or without unused capacity, have equal results.
+func TestPromise1Lists(t *testing.T) {
+	lists := someLists()
+	for _, list := range lists {
+		given, memory := withSpare(list)
+		before := slices.Clone(memory)
+		for name, run := range listFunctions() {
+			if text, want := run(given), run(slices.Clip(slices.Clone(list))); text != want {
+				t.Fatalf("%s(%v) is %s with unused capacity and %s without it", name, list, text, want)
+			}
+			if !slices.Equal(memory, before) {
+				t.Fatalf("%s changes its argument %v to %v", name, before, memory)
+			}
+		}
+		for _, other := range lists[:80] {
+			second, secondMemory := withSpare(other)
+			secondBefore := slices.Clone(secondMemory)
+			for name, run := range listPairFunctions() {
+				if text := run(given, second) + run(second, given); text != run(list, other)+run(other, list) {
+					t.Fatalf("%s(%v, %v) depends on the unused capacity", name, list, other)
+				}
+				if !slices.Equal(memory, before) || !slices.Equal(secondMemory, secondBefore) {
+					t.Fatalf("%s changes %v or %v", name, before, secondBefore)
+				}
+			}
+		}
+	}
+	for name, run := range listFunctions() {
+		if run(nil) != run([]int64{}) {
+			t.Errorf("%s takes nil for something else than an empty list", name)
+		}
+	}
+	for name, run := range listPairFunctions() {
+		one := []int64{1}
+		if run(nil, one) != run([]int64{}, one) || run(one, nil) != run(one, []int64{}) {
+			t.Errorf("%s takes nil for something else than an empty list", name)
+		}
+	}
+}
+
+// TestPromise1NewLists changes the returned lists of chapter 3, up to their capacity.
+func TestPromise1NewLists(t *testing.T) {
+	for _, list := range [][]int64{{2, 1, 4, 3}, {2, 1, 4, 2, 1}, {5}, {5, 1}, {0, 7}, repeated(60, 1)} {
+		given, memory := withSpare(list)
+		before := slices.Clone(memory)
+		value, _ := impl.ValueOfTerms(given)
+		text := impl.TermsText(given)
+		changes := map[string]func() string{
+			"OtherForm":      func() string { return spoiled(firstOf(impl.OtherForm(given)), -9) },
+			"ConvergentsOf":  func() string { return spoiled(firstOf(impl.ConvergentsOf(given)), frac(-9, 0)) },
+			"ExpandFraction": func() string { return spoiled(firstOf(impl.ExpandFraction(value)), -9) },
+			"ReadTerms":      func() string { terms, _ := impl.ReadTerms(text); return spoiled(terms, -9) },
+		}
+		for name, change := range changes {
+			if first, second := change(), change(); first != second || !slices.Equal(memory, before) {
+				t.Errorf("%s: a changed result %s changes %v or the next result %s", name, first, memory, second)
+			}
+		}
+	}
+}
+
+func firstOf[T any](list []T, _ int64) []T {
+	return list
+}
+
+// spoiled overwrites a list and its unused capacity, and returns what it was as a text.
+func spoiled[T any](list []T, with T) string {
+	text := fmt.Sprint(list)
+	list = list[:cap(list)]
+	for i := range list {
+		list[i] = with
+	}
+	return text
 }
 
 // TestPromise2TakenAway adds and subtracts, and multiplies and divides.
@@ -174,6 +312,116 @@ func TestPromise2Invalid(t *testing.T) {
 				if got := outcomeOf(o.run(p[0], p[1])); got != (outcome{code: impl.ErrInvalid}) {
 					t.Fatalf("%s(%v, %v) = %v", o.name, p[0], p[1], got)
 				}
+			}
+		}
+	}
+}
+
+// TestPromise3LeadBack expands fractions and takes the value again, and takes the value of terms and expands it.
+func TestPromise3LeadBack(t *testing.T) {
+	for _, f := range wideFractions() {
+		list, code := impl.ExpandFraction(f)
+		if !plainByRule(f) {
+			if len(list) != 0 || code != impl.ErrInvalid {
+				t.Fatalf("%v is no plain fraction, but has the terms %v, %d", f, list, code)
+			}
+			continue
+		}
+		if back := outcomeOf(impl.ValueOfTerms(list)); code != impl.OK || back != (outcome{f: f}) {
+			t.Fatalf("the terms %v of %v have the value %v", list, f, back)
+		}
+		if len(list) > 1 && list[len(list)-1] == 1 {
+			t.Fatalf("the terms %v of %v are not the short ones", list, f)
+		}
+		other, code := impl.OtherForm(list)
+		if code != impl.OK {
+			continue
+		}
+		if back := outcomeOf(impl.ValueOfTerms(other)); back.code == impl.OK && back.f != f {
+			t.Fatalf("the other terms %v of %v have the value %v", other, f, back)
+		}
+	}
+	for _, list := range allTerms() {
+		value, code := impl.ValueOfTerms(list)
+		if code != impl.OK {
+			continue
+		}
+		want := shortByRule(ratOf(value))
+		if back, code := impl.ExpandFraction(value); code != impl.OK || !slices.Equal(back, want) {
+			t.Fatalf("the value %v of the terms %v has the terms %v", value, list, back)
+		}
+	}
+}
+
+// TestPromise3Ordered compares terms, and their values where these are plain; TestCompareTerms compares exact values.
+func TestPromise3Ordered(t *testing.T) {
+	lists := slices.Concat(smallTerms(3), longTerms(), mixedTerms(40))
+	values := make([]outcome, len(lists))
+	for i, list := range lists {
+		values[i] = outcomeOf(impl.ValueOfTerms(list))
+	}
+	for i, a := range lists {
+		for j, b := range lists {
+			order, code := impl.CompareTerms(a, b)
+			back, backCode := impl.CompareTerms(b, a)
+			if code != impl.OK || backCode != impl.OK || back != -order {
+				t.Fatalf("%v to %v are compared as %d, and in the other order as %d", a, b, order, back)
+			}
+			x, y := values[i], values[j]
+			if x.code != impl.OK || y.code != impl.OK {
+				continue
+			}
+			if want, _ := impl.CompareFractions(x.f, y.f); order != want {
+				t.Fatalf("%v to %v are compared as %d, but %v to %v as %d", a, b, order, x.f, y.f, want)
+			}
+		}
+	}
+	cases := []struct {
+		a, b []int64
+		want int64
+	}{
+		{[]int64{2, 1, 4, 3}, []int64{2, 1, 5}, -1},
+		{[]int64{2, 1, 4, 3}, []int64{2, 1, 4, 2, 1}, 0},
+		{[]int64{impl.MaxNum, 1}, []int64{impl.MaxNum, 2}, 1},
+		{[]int64{impl.MaxNum, 1}, []int64{impl.MaxNum}, 1},
+		{[]int64{0, impl.MaxNum, 1}, []int64{0, impl.MaxNum}, -1},
+		{[]int64{-impl.MaxNum, impl.MaxNum}, []int64{-impl.MaxNum}, 1},
+		{[]int64{1, 1}, []int64{2}, 0},
+		{repeated(60, impl.MaxNum), repeated(59, impl.MaxNum), 1},
+		{repeated(59, impl.MaxNum), repeated(58, impl.MaxNum), -1},
+		{append(repeated(59, impl.MaxNum), 1), repeated(59, impl.MaxNum), 1},
+		{append(repeated(58, 1), 1, 1), append(repeated(58, 1), 2), 0},
+		{repeated(60, 2), repeated(60, 2), 0},
+	}
+	for _, c := range cases {
+		if order, code := impl.CompareTerms(c.a, c.b); order != c.want || code != impl.OK {
+			t.Errorf("CompareTerms(%v, %v) = %d, %d, want %d", c.a, c.b, order, code, c.want)
+		}
+	}
+}
+
+// TestPromise3Invalid gives lists that are not terms to each function that takes terms.
+func TestPromise3Invalid(t *testing.T) {
+	good := []int64{1, 2}
+	for _, list := range noTerms() {
+		if value := outcomeOf(impl.ValueOfTerms(list)); value != (outcome{code: impl.ErrInvalid}) {
+			t.Fatalf("ValueOfTerms(%v) = %v", list, value)
+		}
+		if all, code := impl.ConvergentsOf(list); len(all) != 0 || code != impl.ErrInvalid {
+			t.Fatalf("ConvergentsOf(%v) = %v, %d", list, all, code)
+		}
+		if other, code := impl.OtherForm(list); len(other) != 0 || code != impl.ErrInvalid {
+			t.Fatalf("OtherForm(%v) = %v, %d", list, other, code)
+		}
+		if sum, code := impl.SumOfTerms(list); sum != 0 || code != impl.ErrInvalid {
+			t.Fatalf("SumOfTerms(%v) = %d, %d", list, sum, code)
+		}
+		if text := impl.TermsText(list); text != "" {
+			t.Fatalf("TermsText(%v) = %q", list, text)
+		}
+		for _, pair := range [][2][]int64{{list, good}, {good, list}, {list, list}} {
+			if order, code := impl.CompareTerms(pair[0], pair[1]); order != 0 || code != impl.ErrInvalid {
+				t.Fatalf("CompareTerms(%v, %v) = %d, %d", pair[0], pair[1], order, code)
 			}
 		}
 	}
