@@ -269,14 +269,23 @@ func TestConvergentsAtLimits(t *testing.T) {
 		{repeated(60, -1e9, 1e9), outcome{code: impl.ErrFull}},
 	}
 	for _, c := range cases {
-		if got := outcomeOf(impl.ValueOfTerms(c.list)); got != c.want {
-			t.Errorf("ValueOfTerms(%v) = %v, want %v", c.list, got, c.want)
-		}
+		value := outcomeOf(impl.ValueOfTerms(c.list))
 		all, code := impl.ConvergentsOf(c.list)
-		if code != c.want.code || code == impl.OK && len(all) != len(c.list) || code != impl.OK && len(all) != 0 {
-			t.Errorf("ConvergentsOf(%v) = %v, %d", c.list, all, code)
+		if value != c.want || lastOutcome(all, len(c.list), code) != c.want {
+			t.Errorf("%v has the value %v and the convergents %v, %d, want %v", c.list, value, all, code, c.want)
 		}
 	}
+}
+
+// lastOutcome is the last one of convergents with the code; there is none unless there are count of them just for OK.
+func lastOutcome(all []impl.Fraction, count int, code int64) outcome {
+	switch {
+	case code == impl.OK && len(all) == count:
+		return outcome{f: all[count-1]}
+	case code != impl.OK && len(all) == 0:
+		return outcome{code: code}
+	}
+	return outcome{code: -1}
 }
 
 func TestOtherForm(t *testing.T) {

@@ -28,7 +28,7 @@ var texts = []string{
 	"", " ", "-", "/", "a", "pell-3", "abcdefghijkl", "abcdefghijklm", "0", "-0", "-12", "007", "999999999999999999",
 	"1000000000000000000", "-9223372036854775808", "1/2", "-5/3", "4/2", "1/0", "1/2/3", "  a  b ", "\xff\x00 \xc3",
 	"é\u0120", strings.Repeat("9", 1<<12), strings.Repeat("a b ", 1<<10), "[2; 1, 4, 3]", "[-1]", "[1; 0]", "[; ]",
-	"[1; " + strings.Repeat("1, ", 1<<10) + "1]",
+	"[1; " + strings.Repeat("1, ", 1<<10) + "1]", "1 +3 -2", "-1 -1", "1 +", "1 +0", "1" + strings.Repeat(" -2", 1<<10),
 }
 
 func callsOfBasics() []call {
@@ -44,7 +44,8 @@ func callsOfBasics() []call {
 			callOf(func() string { return fmt.Sprint(impl.ReadDecimal(s)) }, "ReadDecimal", s),
 			callOf(func() string { return fmt.Sprintf("%q", impl.SplitWords(s)) }, "SplitWords", s),
 			callOf(func() string { return fmt.Sprint(impl.ReadFraction(s)) }, "ReadFraction", s),
-			callOf(func() string { return fmt.Sprint(impl.ReadTerms(s)) }, "ReadTerms", s))
+			callOf(func() string { return fmt.Sprint(impl.ReadTerms(s)) }, "ReadTerms", s),
+			callOf(func() string { return fmt.Sprint(impl.ReadSigned(s)) }, "ReadSigned", s))
 	}
 	return list
 }
@@ -77,7 +78,7 @@ func callsOfFractions() []call {
 
 // listFunctions are the functions of one list of numbers; each returns its results as a text.
 func listFunctions() map[string]func(list []int64) string {
-	return map[string]func(list []int64) string{
+	functions := map[string]func(list []int64) string{
 		"ValidTerms":    func(list []int64) string { return fmt.Sprint(impl.ValidTerms(list)) },
 		"ValueOfTerms":  func(list []int64) string { return fmt.Sprint(impl.ValueOfTerms(list)) },
 		"ConvergentsOf": func(list []int64) string { return fmt.Sprint(impl.ConvergentsOf(list)) },
@@ -86,6 +87,12 @@ func listFunctions() map[string]func(list []int64) string {
 		"SumOfTerms":    func(list []int64) string { return fmt.Sprint(impl.SumOfTerms(list)) },
 		"TermsText":     func(list []int64) string { return impl.TermsText(list) },
 	}
+	for _, kind := range someKinds() {
+		functions["SignedFromTerms "+fmt.Sprint(kind)] = func(list []int64) string {
+			return fmt.Sprint(impl.SignedFromTerms(list, kind))
+		}
+	}
+	return functions
 }
 
 // listPairFunctions are the functions of two lists of numbers.
@@ -124,6 +131,72 @@ func callsOfExpansions() []call {
 	return list
 }
 
+// signedFunctions are the functions of one list of terms with signs; each returns its results as a text.
+func signedFunctions() map[string]func(list []impl.SignedTerm) string {
+	functions := map[string]func(list []impl.SignedTerm) string{
+		"ValidSigned":       func(list []impl.SignedTerm) string { return fmt.Sprint(impl.ValidSigned(list)) },
+		"ValueOfSigned":     func(list []impl.SignedTerm) string { return fmt.Sprint(impl.ValueOfSigned(list)) },
+		"SignedConvergents": func(list []impl.SignedTerm) string { return fmt.Sprint(impl.SignedConvergents(list)) },
+		"TermsFromSigned":   func(list []impl.SignedTerm) string { return fmt.Sprint(impl.TermsFromSigned(list)) },
+		"SignedText":        func(list []impl.SignedTerm) string { return impl.SignedText(list) },
+	}
+	for _, kind := range someKinds() {
+		functions["KindOfSigned "+fmt.Sprint(kind)] = func(list []impl.SignedTerm) string {
+			return fmt.Sprint(impl.KindOfSigned(list, kind))
+		}
+	}
+	return functions
+}
+
+// signedPairFunctions are the functions of two lists of terms with signs.
+func signedPairFunctions() map[string]func(a, b []impl.SignedTerm) string {
+	return map[string]func(a, b []impl.SignedTerm) string{
+		"SameSigned": func(a, b []impl.SignedTerm) string { return fmt.Sprint(impl.SameSigned(a, b)) },
+	}
+}
+
+// someKinds are all kinds, and numbers that are none.
+func someKinds() []int64 {
+	return slices.Concat(kinds, noKinds)
+}
+
+// someSigned are terms with signs of all kinds, and lists that are not terms with signs.
+func someSigned() [][]impl.SignedTerm {
+	lists := slices.Concat(smallSigned(3), longSigned()[:200], noSigned()[:200])
+	for _, n := range wide {
+		lists = append(lists, withSigns([]int64{n}, 0), withSigns([]int64{1, n, n}, 2), withSigns(repeated(61, n), 0))
+		for _, m := range wide {
+			lists = append(lists, []impl.SignedTerm{{Sign: n, Term: m}}, []impl.SignedTerm{{Sign: 1, Term: 2}, {Sign: n, Term: m}})
+		}
+	}
+	return lists
+}
+
+func callsOfSigned() []call {
+	var list []call
+	for _, n := range slices.Concat(wide, someKinds()) {
+		list = append(list, callOf(func() string { return impl.KindName(n) }, "KindName", n))
+	}
+	for _, f := range slices.Concat(wideFractions(), manyFractions()) {
+		list = append(list, callOf(func() string { return fmt.Sprint(impl.SignedLengths(f)) }, "SignedLengths", f))
+		for _, kind := range someKinds() {
+			list = append(list, callOf(func() string { return fmt.Sprint(impl.ExpandSigned(f, kind)) }, "ExpandSigned", f, kind))
+		}
+	}
+	lists := someSigned()
+	for _, a := range lists {
+		for name, run := range signedFunctions() {
+			list = append(list, callOf(func() string { return run(a) }, name, a))
+		}
+		for _, b := range lists[:60] {
+			for name, run := range signedPairFunctions() {
+				list = append(list, callOf(func() string { return run(a, b) }, name, a, b))
+			}
+		}
+	}
+	return list
+}
+
 // result is what a call returns, or that it panics.
 func (c call) result(t *testing.T) (text string) {
 	defer func() {
@@ -134,10 +207,10 @@ func (c call) result(t *testing.T) (text string) {
 	return c.run()
 }
 
-// TestPromise1 calls each function of the chapters 1 to 3 for all kinds of arguments, and once more in the opposite
+// TestPromise1 calls each function of the chapters 1 to 4 for all kinds of arguments, and once more in the opposite
 // order: no call panics, and none depends on the calls before it.
 func TestPromise1(t *testing.T) {
-	calls := slices.Concat(callsOfBasics(), callsOfFractions(), callsOfExpansions())
+	calls := slices.Concat(callsOfBasics(), callsOfFractions(), callsOfExpansions(), callsOfSigned())
 	results := make([]string, len(calls))
 	for i, c := range calls {
 		results[i] = c.result(t)
@@ -163,19 +236,18 @@ func TestPromise1NewSlices(t *testing.T) {
 }
 
 // withSpare is a list with unused capacity, and the whole memory that it lies in.
-func withSpare(list []int64) (given, memory []int64) {
-	memory = append(slices.Clone(list), 77, 77, 77)
+func withSpare[T any](list []T, spare T) (given, memory []T) {
+	memory = append(slices.Clone(list), spare, spare, spare)
 	return memory[:len(list)], memory
 }
 
-// TestPromise1Lists looks at the memory of each list behind a call, also behind its end.
+// keepLists calls functions of one list, and looks at the memory of the list behind a call, also behind its end.
 // Lists that are equal, but nil or without unused capacity, have equal results.
-func TestPromise1Lists(t *testing.T) {
-	lists := someLists()
+func keepLists[T comparable](t *testing.T, functions map[string]func(list []T) string, lists [][]T, spare T) {
 	for _, list := range lists {
-		given, memory := withSpare(list)
+		given, memory := withSpare(list, spare)
 		before := slices.Clone(memory)
-		for name, run := range listFunctions() {
+		for name, run := range functions {
 			if text, want := run(given), run(slices.Clip(slices.Clone(list))); text != want {
 				t.Fatalf("%s(%v) is %s with unused capacity and %s without it", name, list, text, want)
 			}
@@ -183,10 +255,23 @@ func TestPromise1Lists(t *testing.T) {
 				t.Fatalf("%s changes its argument %v to %v", name, before, memory)
 			}
 		}
-		for _, other := range lists[:80] {
-			second, secondMemory := withSpare(other)
-			secondBefore := slices.Clone(secondMemory)
-			for name, run := range listPairFunctions() {
+	}
+	for name, run := range functions {
+		if run(nil) != run([]T{}) {
+			t.Errorf("%s takes nil for something else than an empty list", name)
+		}
+	}
+}
+
+// keepPairs does with functions of two lists what keepLists does with those of one list.
+func keepPairs[T comparable](t *testing.T, functions map[string]func(a, b []T) string, lists [][]T, spare T) {
+	for name, run := range functions {
+		for _, list := range lists {
+			given, memory := withSpare(list, spare)
+			before := slices.Clone(memory)
+			for _, other := range lists[:80] {
+				second, secondMemory := withSpare(other, spare)
+				secondBefore := slices.Clone(secondMemory)
 				if text := run(given, second) + run(second, given); text != run(list, other)+run(other, list) {
 					t.Fatalf("%s(%v, %v) depends on the unused capacity", name, list, other)
 				}
@@ -195,24 +280,24 @@ func TestPromise1Lists(t *testing.T) {
 				}
 			}
 		}
-	}
-	for name, run := range listFunctions() {
-		if run(nil) != run([]int64{}) {
-			t.Errorf("%s takes nil for something else than an empty list", name)
-		}
-	}
-	for name, run := range listPairFunctions() {
-		one := []int64{1}
-		if run(nil, one) != run([]int64{}, one) || run(one, nil) != run(one, []int64{}) {
+		one := []T{spare}
+		if run(nil, one) != run([]T{}, one) || run(one, nil) != run(one, []T{}) || run(nil, []T{}) != run([]T{}, []T{}) {
 			t.Errorf("%s takes nil for something else than an empty list", name)
 		}
 	}
 }
 
+func TestPromise1Lists(t *testing.T) {
+	keepLists(t, listFunctions(), someLists(), 77)
+	keepPairs(t, listPairFunctions(), someLists(), 77)
+	keepLists(t, signedFunctions(), someSigned(), impl.SignedTerm{Sign: 1, Term: 77})
+	keepPairs(t, signedPairFunctions(), someSigned(), impl.SignedTerm{Sign: 1, Term: 77})
+}
+
 // TestPromise1NewLists changes the returned lists of chapter 3, up to their capacity.
 func TestPromise1NewLists(t *testing.T) {
 	for _, list := range [][]int64{{2, 1, 4, 3}, {2, 1, 4, 2, 1}, {5}, {5, 1}, {0, 7}, repeated(60, 1)} {
-		given, memory := withSpare(list)
+		given, memory := withSpare(list, 77)
 		before := slices.Clone(memory)
 		value, _ := impl.ValueOfTerms(given)
 		text := impl.TermsText(given)
@@ -226,6 +311,34 @@ func TestPromise1NewLists(t *testing.T) {
 			if first, second := change(), change(); first != second || !slices.Equal(memory, before) {
 				t.Errorf("%s: a changed result %s changes %v or the next result %s", name, first, memory, second)
 			}
+		}
+	}
+}
+
+// TestPromise1NewSigned changes the returned lists of chapter 4, up to their capacity.
+func TestPromise1NewSigned(t *testing.T) {
+	bad := impl.SignedTerm{Sign: -9, Term: -9}
+	for _, list := range [][]impl.SignedTerm{signed(1, 3, -2), signed(5), signed(0, 2, -1, -1), withSigns(repeated(60, 1, 2), 1<<64-1)} {
+		given, memory := withSpare(list, bad)
+		before := slices.Clone(memory)
+		value, _ := impl.ValueOfSigned(given)
+		terms, _ := impl.TermsFromSigned(given)
+		text := impl.SignedText(given)
+		changes := map[string]func() string{
+			"ExpandSigned":      func() string { return spoiled(firstOf(impl.ExpandSigned(value, impl.KindNearest)), bad) },
+			"SignedConvergents": func() string { return spoiled(firstOf(impl.SignedConvergents(given)), frac(-9, 0)) },
+			"SignedFromTerms":   func() string { return spoiled(firstOf(impl.SignedFromTerms(terms, impl.KindNegative)), bad) },
+			"TermsFromSigned":   func() string { return spoiled(firstOf(impl.TermsFromSigned(given)), -9) },
+			"SignedLengths":     func() string { return spoiled(firstOf(impl.SignedLengths(value)), -9) },
+			"ReadSigned":        func() string { list, _ := impl.ReadSigned(text); return spoiled(list, bad) },
+		}
+		for name, change := range changes {
+			if first, second := change(), change(); first != second || !slices.Equal(memory, before) {
+				t.Errorf("%s: a changed result %s changes %v or the next result %s", name, first, memory, second)
+			}
+		}
+		if again := fmt.Sprint(impl.TermsFromSigned(given)); again != fmt.Sprint(terms, impl.OK) {
+			t.Errorf("a changed result changes %v to %s", terms, again)
 		}
 	}
 }
@@ -422,6 +535,144 @@ func TestPromise3Invalid(t *testing.T) {
 		for _, pair := range [][2][]int64{{list, good}, {good, list}, {list, list}} {
 			if order, code := impl.CompareTerms(pair[0], pair[1]); order != 0 || code != impl.ErrInvalid {
 				t.Fatalf("CompareTerms(%v, %v) = %d, %d", pair[0], pair[1], order, code)
+			}
+		}
+	}
+}
+
+// TestPromise4Values expands fractions by each kind and takes the value again, by the function and exactly.
+// Where a convergent on the way is not plain, only the exact value is left.
+func TestPromise4Values(t *testing.T) {
+	count := map[int64]int{}
+	full := 0
+	for _, f := range slices.Concat(wideFractions(), manyFractions()) {
+		for _, kind := range kinds {
+			list, code := impl.ExpandSigned(f, kind)
+			if code != impl.OK {
+				if len(list) != 0 {
+					t.Fatalf("%v has the terms %v by the kind %d together with the code %d", f, list, kind, code)
+				}
+				continue
+			}
+			if exact, fine := valueWithSigns(list); !fine || exact.Cmp(ratOf(f)) != 0 {
+				t.Fatalf("the terms %v of %v by the kind %d have the exact value %v", list, f, kind, exact)
+			}
+			if _, code := convergentsWithSigns(list); code == impl.ErrFull {
+				full++
+				if back := outcomeOf(impl.ValueOfSigned(list)); back != (outcome{code: impl.ErrFull}) {
+					t.Fatalf("the terms %v of %v by the kind %d have the value %v", list, f, kind, back)
+				}
+				continue
+			}
+			count[kind]++
+			if back := outcomeOf(impl.ValueOfSigned(list)); back != (outcome{f: f}) {
+				t.Fatalf("the terms %v of %v by the kind %d have the value %v", list, f, kind, back)
+			}
+			if is, code := impl.KindOfSigned(list, kind); !is || code != impl.OK {
+				t.Fatalf("the terms %v of %v are not of their kind %d: %d", list, f, kind, code)
+			}
+			if terms, code := impl.TermsFromSigned(list); code != impl.OK || !slices.Equal(terms, shortByRule(ratOf(f))) {
+				t.Fatalf("the terms %v of %v by the kind %d have the terms %v, %d without signs", list, f, kind, terms, code)
+			}
+		}
+	}
+	for _, kind := range kinds {
+		if count[kind] < 500 {
+			t.Errorf("only %d expansions of the kind %d were looked at", count[kind], kind)
+		}
+	}
+	if full < 3 || full > 50 {
+		t.Errorf("%d expansions have a convergent that is not plain", full)
+	}
+}
+
+// TestPromise4Terms looks at the terms of a kind one by one: those of KindEven are even, those of KindOdd odd,
+// those of KindNearest leave a rest of at most 1/2, and those of KindNegative have no Sign 1 behind the first one.
+func TestPromise4Terms(t *testing.T) {
+	for _, f := range manyFractions() {
+		for _, kind := range kinds {
+			list, code := impl.ExpandSigned(f, kind)
+			if code != impl.OK {
+				continue
+			}
+			for i, e := range list {
+				fine := true
+				switch kind {
+				case impl.KindNearest:
+					fine = i == 0 || e.Term >= 2
+				case impl.KindEven:
+					fine = e.Term%2 == 0
+				case impl.KindOdd:
+					fine = e.Term%2 != 0
+				case impl.KindNegative:
+					fine = i == 0 || e.Sign == -1 && e.Term >= 2
+				}
+				if !fine {
+					t.Fatalf("%v has the terms %v by the kind %d", f, list, kind)
+				}
+			}
+		}
+	}
+}
+
+// TestPromise4ExactValues compares values with those in the words of the document, where these have no 0 below a line.
+func TestPromise4ExactValues(t *testing.T) {
+	plain, none := 0, 0
+	for _, list := range allSigned() {
+		got := outcomeOf(impl.ValueOfSigned(list))
+		exact, fine := valueWithSigns(list)
+		if !fine {
+			none++
+			continue
+		}
+		if got.code != impl.OK {
+			continue
+		}
+		plain++
+		if ratOf(got.f).Cmp(exact) != 0 {
+			t.Fatalf("the terms %v have the value %v, want %v", list, got.f, exact)
+		}
+	}
+	if plain < 500 || none < 50 {
+		t.Errorf("only %d plain values and %d without one were looked at", plain, none)
+	}
+}
+
+// TestPromise4Invalid gives lists that are not terms with signs, and fractions that are not plain.
+func TestPromise4Invalid(t *testing.T) {
+	for _, list := range noSigned() {
+		if value := outcomeOf(impl.ValueOfSigned(list)); value != (outcome{code: impl.ErrInvalid}) {
+			t.Fatalf("ValueOfSigned(%v) = %v", list, value)
+		}
+		if all, code := impl.SignedConvergents(list); len(all) != 0 || code != impl.ErrInvalid {
+			t.Fatalf("SignedConvergents(%v) = %v, %d", list, all, code)
+		}
+		if terms, code := impl.TermsFromSigned(list); len(terms) != 0 || code != impl.ErrInvalid {
+			t.Fatalf("TermsFromSigned(%v) = %v, %d", list, terms, code)
+		}
+		for _, kind := range []int64{impl.KindOdd, 0} {
+			if is, code := impl.KindOfSigned(list, kind); is || code != impl.ErrInvalid {
+				t.Fatalf("KindOfSigned(%v, %d) = %v, %d", list, kind, is, code)
+			}
+		}
+	}
+	for _, f := range wideFractions() {
+		if plainByRule(f) {
+			continue
+		}
+		for _, kind := range someKinds() {
+			if list, code := impl.ExpandSigned(f, kind); len(list) != 0 || code != impl.ErrInvalid {
+				t.Fatalf("ExpandSigned(%v, %d) = %v, %d", f, kind, list, code)
+			}
+		}
+		if lengths, code := impl.SignedLengths(f); len(lengths) != 0 || code != impl.ErrInvalid {
+			t.Fatalf("SignedLengths(%v) = %v, %d", f, lengths, code)
+		}
+	}
+	for _, terms := range noTerms() {
+		for _, kind := range []int64{impl.KindEven, 5} {
+			if list, code := impl.SignedFromTerms(terms, kind); len(list) != 0 || code != impl.ErrInvalid {
+				t.Fatalf("SignedFromTerms(%v, %d) = %v, %d", terms, kind, list, code)
 			}
 		}
 	}
