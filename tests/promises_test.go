@@ -2,6 +2,7 @@ package tests
 
 import (
 	"fmt"
+	"math/big"
 	"slices"
 	"strings"
 	"testing"
@@ -29,6 +30,7 @@ var texts = []string{
 	"1000000000000000000", "-9223372036854775808", "1/2", "-5/3", "4/2", "1/0", "1/2/3", "  a  b ", "\xff\x00 \xc3",
 	"é\u0120", strings.Repeat("9", 1<<12), strings.Repeat("a b ", 1<<10), "[2; 1, 4, 3]", "[-1]", "[1; 0]", "[; ]",
 	"[1; " + strings.Repeat("1, ", 1<<10) + "1]", "1 +3 -2", "-1 -1", "1 +", "1 +0", "1" + strings.Repeat(" -2", 1<<10),
+	"top", "L2 R1", "R1000000000", "R0", "R1 R2", "r1", "L1  R1", "R1" + strings.Repeat(" L1 R1", 1<<10),
 }
 
 func callsOfBasics() []call {
@@ -45,7 +47,8 @@ func callsOfBasics() []call {
 			callOf(func() string { return fmt.Sprintf("%q", impl.SplitWords(s)) }, "SplitWords", s),
 			callOf(func() string { return fmt.Sprint(impl.ReadFraction(s)) }, "ReadFraction", s),
 			callOf(func() string { return fmt.Sprint(impl.ReadTerms(s)) }, "ReadTerms", s),
-			callOf(func() string { return fmt.Sprint(impl.ReadSigned(s)) }, "ReadSigned", s))
+			callOf(func() string { return fmt.Sprint(impl.ReadSigned(s)) }, "ReadSigned", s),
+			callOf(func() string { return fmt.Sprint(impl.ReadPath(s)) }, "ReadPath", s))
 	}
 	return list
 }
@@ -197,6 +200,68 @@ func callsOfSigned() []call {
 	return list
 }
 
+// pathFunctions are the functions of the runs of a path; each returns its results as a text.
+func pathFunctions() map[string]func(runs []int64) string {
+	return map[string]func(runs []int64) string{
+		"ValidPath":      func(runs []int64) string { return fmt.Sprint(impl.ValidPath(runs)) },
+		"FractionAtPath": func(runs []int64) string { return fmt.Sprint(impl.FractionAtPath(runs)) },
+		"PathText":       func(runs []int64) string { return impl.PathText(runs) },
+	}
+}
+
+// somePaths are paths of all kinds, and lists that are not paths.
+func somePaths() [][]int64 {
+	lists := slices.Concat(smallPaths(3), longPaths(), noPaths()[:200])
+	for _, n := range wide {
+		lists = append(lists, []int64{n}, []int64{0, n}, []int64{n, 1}, []int64{n, n, n}, repeated(60, n), repeated(60, 0, n), repeated(200, n))
+	}
+	return lists
+}
+
+// placeFunctions are the functions of a fraction in the tree.
+func placeFunctions() map[string]func(f impl.Fraction) string {
+	return map[string]func(f impl.Fraction) string{
+		"PathTo":         func(f impl.Fraction) string { return fmt.Sprint(impl.PathTo(f)) },
+		"LevelOf":        func(f impl.Fraction) string { return fmt.Sprint(impl.LevelOf(f)) },
+		"ParentFraction": func(f impl.Fraction) string { return fmt.Sprint(impl.ParentFraction(f)) },
+		"ChildrenOf":     func(f impl.Fraction) string { return fmt.Sprint(impl.ChildrenOf(f)) },
+		"BoundsOf":       func(f impl.Fraction) string { return fmt.Sprint(impl.BoundsOf(f)) },
+	}
+}
+
+// placePairFunctions are the functions of two fractions in the tree.
+func placePairFunctions() map[string]func(a, b impl.Fraction) string {
+	return map[string]func(a, b impl.Fraction) string{
+		"CommonAncestor":  func(a, b impl.Fraction) string { return fmt.Sprint(impl.CommonAncestor(a, b)) },
+		"IsAncestor":      func(a, b impl.Fraction) string { return fmt.Sprint(impl.IsAncestor(a, b)) },
+		"SimplestBetween": func(a, b impl.Fraction) string { return fmt.Sprint(impl.SimplestBetween(a, b)) },
+	}
+}
+
+func callsOfTree() []call {
+	var list []call
+	for _, n := range slices.Concat(wide, []int64{5, 6, 7, 8}) {
+		list = append(list, callOf(func() string { return fmt.Sprint(impl.RowOfTree(n)) }, "RowOfTree", n))
+	}
+	for _, runs := range somePaths() {
+		for name, run := range pathFunctions() {
+			list = append(list, callOf(func() string { return run(runs) }, name, runs))
+		}
+	}
+	fractions := slices.Concat(wideFractions(), positiveFractions())
+	for i, a := range fractions {
+		for name, run := range placeFunctions() {
+			list = append(list, callOf(func() string { return run(a) }, name, a))
+		}
+		for _, b := range fractions[i%40:][:200] {
+			for name, run := range placePairFunctions() {
+				list = append(list, callOf(func() string { return run(a, b) }, name, a, b))
+			}
+		}
+	}
+	return list
+}
+
 // result is what a call returns, or that it panics.
 func (c call) result(t *testing.T) (text string) {
 	defer func() {
@@ -207,10 +272,10 @@ func (c call) result(t *testing.T) (text string) {
 	return c.run()
 }
 
-// TestPromise1 calls each function of the chapters 1 to 4 for all kinds of arguments, and once more in the opposite
+// TestPromise1 calls each function of the chapters 1 to 5 for all kinds of arguments, and once more in the opposite
 // order: no call panics, and none depends on the calls before it.
 func TestPromise1(t *testing.T) {
-	calls := slices.Concat(callsOfBasics(), callsOfFractions(), callsOfExpansions(), callsOfSigned())
+	calls := slices.Concat(callsOfBasics(), callsOfFractions(), callsOfExpansions(), callsOfSigned(), callsOfTree())
 	results := make([]string, len(calls))
 	for i, c := range calls {
 		results[i] = c.result(t)
@@ -292,6 +357,7 @@ func TestPromise1Lists(t *testing.T) {
 	keepPairs(t, listPairFunctions(), someLists(), 77)
 	keepLists(t, signedFunctions(), someSigned(), impl.SignedTerm{Sign: 1, Term: 77})
 	keepPairs(t, signedPairFunctions(), someSigned(), impl.SignedTerm{Sign: 1, Term: 77})
+	keepLists(t, pathFunctions(), somePaths(), 77)
 }
 
 // TestPromise1NewLists changes the returned lists of chapter 3, up to their capacity.
@@ -339,6 +405,29 @@ func TestPromise1NewSigned(t *testing.T) {
 		}
 		if again := fmt.Sprint(impl.TermsFromSigned(given)); again != fmt.Sprint(terms, impl.OK) {
 			t.Errorf("a changed result changes %v to %s", terms, again)
+		}
+	}
+}
+
+// TestPromise1NewPaths changes the returned lists of chapter 5, up to their capacity.
+func TestPromise1NewPaths(t *testing.T) {
+	for _, runs := range [][]int64{{}, {0, 2, 1}, {3}, {0, 3}, {1, 3}, repeated(42, 1), repeated(43, 0, 1), {1e9 - 1}} {
+		given, memory := withSpare(runs, 77)
+		before := slices.Clone(memory)
+		f, _ := impl.FractionAtPath(given)
+		text := impl.PathText(given)
+		changes := map[string]func() string{
+			"PathTo":    func() string { return spoiled(firstOf(impl.PathTo(f)), -9) },
+			"ReadPath":  func() string { runs, _ := impl.ReadPath(text); return spoiled(runs, -9) },
+			"RowOfTree": func() string { return spoiled(firstOf(impl.RowOfTree(int64(len(runs))%11)), frac(-9, 0)) },
+		}
+		for name, change := range changes {
+			if first, second := change(), change(); first != second || !slices.Equal(memory, before) {
+				t.Errorf("%s: a changed result %s changes %v or the next result %s", name, first, memory, second)
+			}
+		}
+		if again := outcomeOf(impl.FractionAtPath(given)); again != (outcome{f: f}) || impl.PathText(given) != text {
+			t.Errorf("a changed result changes %v to %v", f, again)
 		}
 	}
 }
@@ -673,6 +762,152 @@ func TestPromise4Invalid(t *testing.T) {
 		for _, kind := range []int64{impl.KindEven, 5} {
 			if list, code := impl.SignedFromTerms(terms, kind); len(list) != 0 || code != impl.ErrInvalid {
 				t.Fatalf("SignedFromTerms(%v, %d) = %v, %d", terms, kind, list, code)
+			}
+		}
+	}
+}
+
+// simplestByRule is the topmost fraction of the tree that is greater than a and less than b: from the top on, runs of
+// as many steps at once as lead to no fraction behind the bound. All numbers are exact.
+func simplestByRule(a, b *big.Rat) *big.Rat {
+	p, q, r, s := big.NewInt(0), big.NewInt(1), big.NewInt(1), big.NewInt(0)
+	times := func(x, y *big.Int) *big.Int { return new(big.Int).Mul(x, y) }
+	minus := func(x, y *big.Int) *big.Int { return new(big.Int).Sub(x, y) }
+	plus := func(x, y *big.Int) *big.Int { return new(big.Int).Add(x, y) }
+	for {
+		middle := new(big.Rat).SetFrac(plus(p, r), plus(q, s))
+		switch {
+		case middle.Cmp(a) <= 0:
+			steps := new(big.Int).Div(minus(times(a.Num(), q), times(p, a.Denom())), minus(times(r, a.Denom()), times(a.Num(), s)))
+			p, q = plus(p, times(steps, r)), plus(q, times(steps, s))
+		case middle.Cmp(b) >= 0:
+			steps := new(big.Int).Div(minus(times(r, b.Denom()), times(b.Num(), s)), minus(times(b.Num(), q), times(p, b.Denom())))
+			r, s = plus(r, times(steps, p)), plus(s, times(steps, q))
+		default:
+			return middle
+		}
+	}
+}
+
+// tried is the fraction between a and b with the least Den, and of several with the least Num, found by trying each Den.
+func tried(a, b impl.Fraction) impl.Fraction {
+	for den := int64(1); ; den++ {
+		num := new(big.Rat).Mul(ratOf(a), big.NewRat(den, 1))
+		least := num.Add(floorByRule(num), big.NewRat(1, 1)).Num().Int64()
+		if big.NewRat(least, den).Cmp(ratOf(b)) < 0 {
+			return frac(least, den)
+		}
+	}
+}
+
+// TestPromise5Tried compares simplest fractions with those that are found by trying each denominator.
+func TestPromise5Tried(t *testing.T) {
+	var list []impl.Fraction
+	for den := int64(1); den <= 13; den++ {
+		for num := int64(0); num <= 3*den; num++ {
+			list = append(list, frac(num, den))
+		}
+	}
+	list = slices.DeleteFunc(list, func(f impl.Fraction) bool { return !plainByRule(f) })
+	list = append(list, frac(1, 100), frac(1, 99), frac(99, 100), frac(100, 99), frac(100, 1), frac(201, 2), frac(1e9, 1), frac(311, 99), frac(355, 113))
+	for _, a := range list {
+		for _, b := range list {
+			want := outcome{code: impl.ErrState}
+			if ratOf(a).Cmp(ratOf(b)) < 0 {
+				want = outcome{f: tried(a, b)}
+			}
+			if got := outcomeOf(impl.SimplestBetween(a, b)); got != want {
+				t.Fatalf("SimplestBetween(%v, %v) = %v, want %v", a, b, got, want)
+			}
+		}
+	}
+}
+
+// TestPromise5Between takes bounds of all sizes. A fraction between the bounds of another one in the tree stands below
+// it, and so has no lesser denominator: none between a and b has if a and b do not lie outside these bounds.
+func TestPromise5Between(t *testing.T) {
+	list := slices.Concat(positiveFractions(), []impl.Fraction{frac(0, 1)})
+	list = append(list, list[:40]...)
+	count := map[int64]int{}
+	for i, a := range list {
+		for j, b := range list {
+			got := outcomeOf(impl.SimplestBetween(a, b))
+			if ratOf(a).Cmp(ratOf(b)) >= 0 {
+				if got != (outcome{code: impl.ErrState}) {
+					t.Fatalf("SimplestBetween(%v, %v) = %v", a, b, got)
+				}
+				continue
+			}
+			count[got.code]++
+			if i%8 == 0 || j%8 == 0 || got.code != impl.OK {
+				if want := plainOrFull(simplestByRule(ratOf(a), ratOf(b))); got != want {
+					t.Fatalf("SimplestBetween(%v, %v) = %v, want %v", a, b, got, want)
+				}
+			}
+			if got.code != impl.OK {
+				continue
+			}
+			if !plainByRule(got.f) || ratOf(a).Cmp(ratOf(got.f)) >= 0 || ratOf(got.f).Cmp(ratOf(b)) >= 0 {
+				t.Fatalf("SimplestBetween(%v, %v) = %v", a, b, got)
+			}
+			low := boundsByRule(got.f)
+			if a.Num*low[1] < low[0]*a.Den || b.Num*low[3] > low[2]*b.Den {
+				t.Fatalf("SimplestBetween(%v, %v) = %v, but one of its bounds %v is between them as well", a, b, got, low)
+			}
+		}
+	}
+	if count[impl.OK] < 10000 || count[impl.ErrFull] < 20 {
+		t.Errorf("only %d simplest fractions and %d that are not plain were looked at", count[impl.OK], count[impl.ErrFull])
+	}
+}
+
+func TestPromise5Known(t *testing.T) {
+	full, state := outcome{code: impl.ErrFull}, outcome{code: impl.ErrState}
+	cases := []struct {
+		a, b impl.Fraction
+		want outcome
+	}{
+		{frac(1, 3), frac(1, 2), outcome{f: frac(2, 5)}}, {frac(1, 2), frac(5, 2), outcome{f: frac(1, 1)}}, {frac(0, 1), frac(1, 10), outcome{f: frac(1, 11)}},
+		{frac(5, 2), frac(3, 1), outcome{f: frac(8, 3)}}, {frac(0, 1), frac(1, 1), outcome{f: frac(1, 2)}}, {frac(0, 1), frac(1e9, 1), outcome{f: frac(1, 1)}},
+		{frac(1, 1), frac(1e9, 1), outcome{f: frac(2, 1)}}, {frac(2, 1), frac(3, 1), outcome{f: frac(5, 2)}}, {frac(31, 10), frac(63, 20), outcome{f: frac(22, 7)}},
+		{frac(999999998, 1), frac(1e9, 1), outcome{f: frac(999999999, 1)}}, {frac(999999999, 1), frac(1e9, 1), full}, {frac(0, 1), frac(1, 1e9), full},
+		{frac(0, 1), frac(1, 1e9-1), outcome{f: frac(1, 1e9)}}, {frac(1, 1e9), frac(1, 1e9-1), full}, {frac(1, 1e9), frac(1, 1e9-2), outcome{f: frac(1, 1e9-1)}},
+		{frac(1, 1e9), frac(1, 1), outcome{f: frac(1, 2)}}, {frac(1e9-1, 1e9), frac(1, 1), full}, {frac(1, 1), frac(1e9, 1e9-1), full},
+		{frac(1e9-1, 1e9), frac(1e9, 1e9-1), outcome{f: frac(1, 1)}}, {frac(1e9-2, 1e9-1), frac(1e9-1, 1e9), full}, {frac(499999999, 1), frac(5e8, 1), outcome{f: frac(999999999, 2)}},
+		{frac(5e8, 1), frac(500000001, 1), full}, {frac(267914296, 433494437), frac(433494437, 701408733), full}, {frac(433494437, 701408733), frac(267914296, 433494437), state},
+		{frac(0, 1), frac(0, 1), state}, {frac(2, 5), frac(2, 5), state}, {frac(1, 2), frac(1, 3), state}, {frac(1, 1), frac(0, 1), state}, {frac(1e9, 1), frac(999999999, 1), state},
+		{frac(1e9, 1), frac(1e9, 1), state}, {frac(1, 1e9), frac(0, 1), state},
+	}
+	for _, c := range cases {
+		if got := outcomeOf(impl.SimplestBetween(c.a, c.b)); got != c.want {
+			t.Errorf("SimplestBetween(%v, %v) = %v, want %v", c.a, c.b, got, c.want)
+		}
+	}
+}
+
+// TestPromise5Invalid gives bounds that are not plain, then negative ones, and then both in the wrong order.
+func TestPromise5Invalid(t *testing.T) {
+	others := []impl.Fraction{frac(0, 1), frac(1, 2), frac(1e9, 1), frac(-1, 2), frac(-1e9, 1), frac(2, 4), frac(1, 0)}
+	for _, f := range wideFractions() {
+		for _, other := range others {
+			want := int64(impl.OK)
+			switch {
+			case !plainByRule(f) || !plainByRule(other):
+				want = impl.ErrInvalid
+			case f.Num < 0 || other.Num < 0:
+				want = impl.ErrRange
+			default:
+				continue
+			}
+			for _, pair := range [][2]impl.Fraction{{f, other}, {other, f}} {
+				if got := outcomeOf(impl.SimplestBetween(pair[0], pair[1])); got != (outcome{code: want}) {
+					t.Fatalf("SimplestBetween(%v, %v) = %v, want %d", pair[0], pair[1], got, want)
+				}
+			}
+		}
+		if plainByRule(f) && f.Num >= 0 {
+			if got := outcomeOf(impl.SimplestBetween(f, f)); got != (outcome{code: impl.ErrState}) {
+				t.Fatalf("SimplestBetween(%v, %v) = %v", f, f, got)
 			}
 		}
 	}
