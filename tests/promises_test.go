@@ -262,6 +262,56 @@ func callsOfTree() []call {
 	return list
 }
 
+// orderFunctions are the functions of the order of a Farey sequence; each returns its results as a text.
+func orderFunctions() map[string]func(order int64) string {
+	return map[string]func(order int64) string{
+		"TotientOf":     func(order int64) string { return fmt.Sprint(impl.TotientOf(order)) },
+		"FareyCount":    func(order int64) string { return fmt.Sprint(impl.FareyCount(order)) },
+		"FareySequence": func(order int64) string { return fmt.Sprint(impl.FareySequence(order)) },
+		"FareyLines":    func(order int64) string { return fmt.Sprint(impl.FareyLines(order)) },
+	}
+}
+
+// elementFunctions are the functions of an order and a fraction.
+func elementFunctions() map[string]func(order int64, f impl.Fraction) string {
+	return map[string]func(order int64, f impl.Fraction) string{
+		"NextFarey":       func(order int64, f impl.Fraction) string { return fmt.Sprint(impl.NextFarey(order, f)) },
+		"BeforeFarey":     func(order int64, f impl.Fraction) string { return fmt.Sprint(impl.BeforeFarey(order, f)) },
+		"FareyRank":       func(order int64, f impl.Fraction) string { return fmt.Sprint(impl.FareyRank(order, f)) },
+		"TouchingCircles": func(order int64, f impl.Fraction) string { return fmt.Sprint(impl.TouchingCircles(order, f)) },
+	}
+}
+
+// someOrders are numbers around each limit of an order, and the numbers wide.
+func someOrders() []int64 {
+	return slices.Concat(wide, []int64{5, 39, 40, 41, 999, 1000, 1001, 9999, 10000, 10001, 999999, 1000000, 1000001})
+}
+
+func callsOfFarey() []call {
+	var list []call
+	fractions := slices.Concat(wideFractions(), fareyPlaces())
+	for i, order := range someOrders() {
+		for name, run := range orderFunctions() {
+			list = append(list, callOf(func() string { return run(order) }, name, order))
+		}
+		for _, k := range someOrders() {
+			list = append(list, callOf(func() string { return fmt.Sprint(impl.FareyAt(order, k)) }, "FareyAt", order, k))
+		}
+		for _, f := range slices.Concat(fractions[i*20:][:200], []impl.Fraction{frac(0, 1), frac(1, 1)}) {
+			for name, run := range elementFunctions() {
+				list = append(list, callOf(func() string { return run(order, f) }, name, order, f))
+			}
+		}
+	}
+	for _, a := range fractions {
+		list = append(list, callOf(func() string { return fmt.Sprint(impl.CircleOf(a)) }, "CircleOf", a))
+		for _, b := range append(fractions[:60], a) {
+			list = append(list, callOf(func() string { return fmt.Sprint(impl.CirclesTouch(a, b)) }, "CirclesTouch", a, b))
+		}
+	}
+	return list
+}
+
 // result is what a call returns, or that it panics.
 func (c call) result(t *testing.T) (text string) {
 	defer func() {
@@ -272,10 +322,10 @@ func (c call) result(t *testing.T) (text string) {
 	return c.run()
 }
 
-// TestPromise1 calls each function of the chapters 1 to 5 for all kinds of arguments, and once more in the opposite
+// TestPromise1 calls each function of the chapters 1 to 6 for all kinds of arguments, and once more in the opposite
 // order: no call panics, and none depends on the calls before it.
 func TestPromise1(t *testing.T) {
-	calls := slices.Concat(callsOfBasics(), callsOfFractions(), callsOfExpansions(), callsOfSigned(), callsOfTree())
+	calls := slices.Concat(callsOfBasics(), callsOfFractions(), callsOfExpansions(), callsOfSigned(), callsOfTree(), callsOfFarey())
 	results := make([]string, len(calls))
 	for i, c := range calls {
 		results[i] = c.result(t)
@@ -428,6 +478,25 @@ func TestPromise1NewPaths(t *testing.T) {
 		}
 		if again := outcomeOf(impl.FractionAtPath(given)); again != (outcome{f: f}) || impl.PathText(given) != text {
 			t.Errorf("a changed result changes %v to %v", f, again)
+		}
+	}
+}
+
+// TestPromise1NewFarey changes the returned lists of chapter 6, up to their capacity.
+func TestPromise1NewFarey(t *testing.T) {
+	for _, order := range []int64{1, 2, 3, 8, 10} {
+		changes := map[string]func() string{
+			"FareySequence":   func() string { return spoiled(firstOf(impl.FareySequence(order)), frac(-9, 0)) },
+			"TouchingCircles": func() string { return spoiled(firstOf(impl.TouchingCircles(order, frac(0, 1))), frac(-9, 0)) },
+			"FareyLines":      func() string { return spoiled(firstOf(impl.FareyLines(order)), "other") },
+		}
+		for name, change := range changes {
+			if first, second := change(), change(); first != second {
+				t.Errorf("%s: a changed result %s changes the next result %s", name, first, second)
+			}
+		}
+		if e := outcomeOf(impl.FareyAt(order, 1)); e != (outcome{f: frac(1, order)}) {
+			t.Errorf("a changed result changes the element behind 0 of the order %d to %v", order, e)
 		}
 	}
 }
@@ -908,6 +977,114 @@ func TestPromise5Invalid(t *testing.T) {
 		if plainByRule(f) && f.Num >= 0 {
 			if got := outcomeOf(impl.SimplestBetween(f, f)); got != (outcome{code: impl.ErrState}) {
 				t.Fatalf("SimplestBetween(%v, %v) = %v", f, f, got)
+			}
+		}
+	}
+}
+
+// followAsNeighbours looks at elements of a Farey sequence that follow one another.
+func followAsNeighbours(t *testing.T, order int64, low, high impl.Fraction) {
+	t.Helper()
+	if low.Num*high.Den-high.Num*low.Den != -1 || !impl.AreNeighbours(low, high) {
+		t.Fatalf("%v and %v follow one another in the order %d, but are no neighbours", low, high, order)
+	}
+	if touch, code := impl.CirclesTouch(low, high); !touch || code != impl.OK {
+		t.Fatalf("%v and %v follow one another in the order %d, but their circles do not touch: %d", low, high, order, code)
+	}
+	// Otherwise, their mediant would be between them.
+	if low.Den > order || high.Den > order || low.Den+high.Den <= order {
+		t.Fatalf("%v and %v follow one another in the order %d", low, high, order)
+	}
+}
+
+// TestPromise6Sequences walks through whole sequences, by their lists, by the numbers of their elements, and by the
+// next element of each and the last one before it.
+func TestPromise6Sequences(t *testing.T) {
+	for order := int64(1); order <= impl.MaxOrder; order++ {
+		list, code := impl.FareySequence(order)
+		if code != impl.OK || len(list) < 2 || list[0] != frac(0, 1) || list[len(list)-1] != frac(1, 1) {
+			t.Fatalf("FareySequence(%d) = %v, %d", order, list, code)
+		}
+		for i, high := range list[1:] {
+			low := list[i]
+			followAsNeighbours(t, order, low, high)
+			if got := outcomeOf(impl.FareyAt(order, int64(i)+1)); got != (outcome{f: high}) {
+				t.Fatalf("FareyAt(%d, %d) = %v, want %v", order, i+1, got, high)
+			}
+			if got := outcomeOf(impl.NextFarey(order, low)); got != (outcome{f: high}) {
+				t.Fatalf("NextFarey(%d, %v) = %v, want %v", order, low, got, high)
+			}
+			if got := outcomeOf(impl.BeforeFarey(order, high)); got != (outcome{f: low}) {
+				t.Fatalf("BeforeFarey(%d, %v) = %v, want %v", order, high, got, low)
+			}
+			touching, code := impl.TouchingCircles(order, low)
+			if !slices.Contains(touching, high) || code != impl.OK {
+				t.Fatalf("%v follows %v in the order %d, but the touching circles are %v, %d", high, low, order, touching, code)
+			}
+		}
+	}
+}
+
+// TestPromise6GreatOrders walks some elements on from several places of long sequences, and back again.
+func TestPromise6GreatOrders(t *testing.T) {
+	for _, order := range []int64{41, 100, 997, 9999, impl.MaxFarey} {
+		for _, start := range []impl.Fraction{frac(0, 1), frac(1, 3), frac(1, 2), frac(355, 1130), frac(618033989, 1e9), frac(order-2, order), frac(9990, 9991)} {
+			if !plainByRule(start) {
+				continue
+			}
+			walkFarey(t, order, start)
+		}
+	}
+}
+
+// walkFarey walks from a place to elements that follow one another, as far as there are some.
+func walkFarey(t *testing.T, order int64, start impl.Fraction) {
+	t.Helper()
+	low, code := impl.NextFarey(order, start)
+	for step := 0; code == impl.OK && step < 25; step++ {
+		high := outcomeOf(impl.NextFarey(order, low))
+		if low == frac(1, 1) {
+			if high != (outcome{code: impl.ErrNotFound}) {
+				t.Fatalf("NextFarey(%d, 1) = %v", order, high)
+			}
+			return
+		}
+		if high.code != impl.OK {
+			t.Fatalf("NextFarey(%d, %v) = %v", order, low, high)
+		}
+		followAsNeighbours(t, order, low, high.f)
+		if back := outcomeOf(impl.BeforeFarey(order, high.f)); back != (outcome{f: low}) {
+			t.Fatalf("%v follows %v in the order %d, but behind %v", high.f, low, order, back)
+		}
+		low = high.f
+	}
+}
+
+// TestPromise6Invalid gives orders that are none, and fractions that are not plain or have no place in a sequence.
+func TestPromise6Invalid(t *testing.T) {
+	for _, order := range noOrders(impl.MaxFarey) {
+		if list, code := impl.FareySequence(order); len(list) != 0 || code != impl.ErrRange {
+			t.Fatalf("FareySequence(%d) = %v, %d", order, list, code)
+		}
+		if got := outcomeOf(impl.FareyAt(order, 0)); got != (outcome{code: impl.ErrRange}) {
+			t.Fatalf("FareyAt(%d, 0) = %v", order, got)
+		}
+		for _, f := range []impl.Fraction{frac(0, 1), frac(1, 2), frac(1, 1), frac(-1, 2), frac(3, 2)} {
+			fareyErrors(t, order, f, impl.ErrRange, impl.ErrRange)
+		}
+		for _, f := range []impl.Fraction{frac(2, 4), frac(0, 2), frac(1, 0), frac(-2, 4), frac(6, 4), {}} {
+			fareyErrors(t, order, f, impl.ErrInvalid, impl.ErrInvalid)
+		}
+	}
+	good := frac(1, 2)
+	for _, f := range wideFractions() {
+		if plainByRule(f) {
+			continue
+		}
+		fareyErrors(t, 3, f, impl.ErrInvalid, impl.ErrInvalid)
+		for _, pair := range [][2]impl.Fraction{{f, good}, {good, f}, {f, f}} {
+			if touch, code := impl.CirclesTouch(pair[0], pair[1]); touch || code != impl.ErrInvalid {
+				t.Fatalf("CirclesTouch(%v, %v) = %v, %d", pair[0], pair[1], touch, code)
 			}
 		}
 	}
