@@ -2,6 +2,7 @@ package tests
 
 import (
 	"fmt"
+	"math"
 	"math/big"
 	"slices"
 	"strings"
@@ -31,6 +32,7 @@ var texts = []string{
 	"é\u0120", strings.Repeat("9", 1<<12), strings.Repeat("a b ", 1<<10), "[2; 1, 4, 3]", "[-1]", "[1; 0]", "[; ]",
 	"[1; " + strings.Repeat("1, ", 1<<10) + "1]", "1 +3 -2", "-1 -1", "1 +", "1 +0", "1" + strings.Repeat(" -2", 1<<10),
 	"top", "L2 R1", "R1000000000", "R0", "R1 R2", "r1", "L1  R1", "R1" + strings.Repeat(" L1 R1", 1<<10),
+	"(1+r5)/2", "(-1+r5)/-2", "(0+r4)/1", "(1+r5)/0", "(+r)/", "(9223372036854775807+r2)/1", "(1+r5" + strings.Repeat(")/2", 1<<10),
 }
 
 func callsOfBasics() []call {
@@ -48,7 +50,8 @@ func callsOfBasics() []call {
 			callOf(func() string { return fmt.Sprint(impl.ReadFraction(s)) }, "ReadFraction", s),
 			callOf(func() string { return fmt.Sprint(impl.ReadTerms(s)) }, "ReadTerms", s),
 			callOf(func() string { return fmt.Sprint(impl.ReadSigned(s)) }, "ReadSigned", s),
-			callOf(func() string { return fmt.Sprint(impl.ReadPath(s)) }, "ReadPath", s))
+			callOf(func() string { return fmt.Sprint(impl.ReadPath(s)) }, "ReadPath", s),
+			callOf(func() string { return fmt.Sprint(impl.ReadSurd(s)) }, "ReadSurd", s))
 	}
 	return list
 }
@@ -312,6 +315,55 @@ func callsOfFarey() []call {
 	return list
 }
 
+// surdFunctions are the functions of one surd; each returns its results as a text.
+func surdFunctions() map[string]func(s impl.Surd) string {
+	return map[string]func(s impl.Surd) string{
+		"ValidSurd":   func(s impl.Surd) string { return fmt.Sprint(impl.ValidSurd(s)) },
+		"FloorSurd":   func(s impl.Surd) string { return fmt.Sprint(impl.FloorSurd(s)) },
+		"ConjugateOf": func(s impl.Surd) string { return fmt.Sprint(impl.ConjugateOf(s)) },
+		"NextSurd":    func(s impl.Surd) string { return fmt.Sprint(impl.NextSurd(s)) },
+		"IsReduced":   func(s impl.Surd) string { return fmt.Sprint(impl.IsReduced(s)) },
+		"EquationOf":  func(s impl.Surd) string { return fmt.Sprint(impl.EquationOf(s)) },
+		"SurdText":    func(s impl.Surd) string { return impl.SurdText(s) },
+		"MakeSurd":    func(s impl.Surd) string { return fmt.Sprint(impl.MakeSurd(s.P, s.D, s.Q)) },
+	}
+}
+
+// wideSurds are all triples of some numbers, most of which are not plain.
+func wideSurds() []impl.Surd {
+	numbers := []int64{math.MinInt64, -1e18, -1e9, -1e6 - 1, -1e6, -2, -1, 0, 1, 2, 5, 999999, 1e6, 1e6 + 1, 3037000500, 1e18, math.MaxInt64}
+	var list []impl.Surd
+	for _, p := range numbers {
+		for _, d := range numbers {
+			for _, q := range numbers {
+				list = append(list, surd(p, d, q))
+			}
+		}
+	}
+	return list
+}
+
+func callsOfSurds() []call {
+	var list []call
+	for _, n := range slices.Concat(wide, rootedNumbers()[:100]) {
+		list = append(list, callOf(func() string { return fmt.Sprint(impl.RootOf(n)) }, "RootOf", n))
+	}
+	surds := slices.Concat(knownSurds, noSurds(), mixedSurds(200), wideSurds())
+	fractions := wideFractions()
+	for i, s := range surds {
+		for name, run := range surdFunctions() {
+			list = append(list, callOf(func() string { return run(s) }, name, s))
+		}
+		for _, count := range append(slices.Clone(wide), 199, 200, 201) {
+			list = append(list, callOf(func() string { return fmt.Sprint(impl.TermsOfSurd(s, count)) }, "TermsOfSurd", s, count))
+		}
+		for _, f := range fractions[i%1000:][:40] {
+			list = append(list, callOf(func() string { return fmt.Sprint(impl.CompareSurd(s, f)) }, "CompareSurd", s, f))
+		}
+	}
+	return list
+}
+
 // result is what a call returns, or that it panics.
 func (c call) result(t *testing.T) (text string) {
 	defer func() {
@@ -322,10 +374,10 @@ func (c call) result(t *testing.T) (text string) {
 	return c.run()
 }
 
-// TestPromise1 calls each function of the chapters 1 to 6 for all kinds of arguments, and once more in the opposite
+// TestPromise1 calls each function of the chapters 1 to 7 for all kinds of arguments, and once more in the opposite
 // order: no call panics, and none depends on the calls before it.
 func TestPromise1(t *testing.T) {
-	calls := slices.Concat(callsOfBasics(), callsOfFractions(), callsOfExpansions(), callsOfSigned(), callsOfTree(), callsOfFarey())
+	calls := slices.Concat(callsOfBasics(), callsOfFractions(), callsOfExpansions(), callsOfSigned(), callsOfTree(), callsOfFarey(), callsOfSurds())
 	results := make([]string, len(calls))
 	for i, c := range calls {
 		results[i] = c.result(t)
@@ -497,6 +549,18 @@ func TestPromise1NewFarey(t *testing.T) {
 		}
 		if e := outcomeOf(impl.FareyAt(order, 1)); e != (outcome{f: frac(1, order)}) {
 			t.Errorf("a changed result changes the element behind 0 of the order %d to %v", order, e)
+		}
+	}
+}
+
+// TestPromise1NewSurdTerms changes the returned lists of chapter 7, up to their capacity.
+func TestPromise1NewSurdTerms(t *testing.T) {
+	for _, s := range knownSurds {
+		for _, count := range []int64{1, 2, 7, 200} {
+			first := spoiled(firstOf(impl.TermsOfSurd(s, count)), -9)
+			if again := fmt.Sprint(firstOf(impl.TermsOfSurd(s, count))); again != first {
+				t.Errorf("a changed result %s changes the next result %s", first, again)
+			}
 		}
 	}
 }
@@ -1085,6 +1149,111 @@ func TestPromise6Invalid(t *testing.T) {
 		for _, pair := range [][2]impl.Fraction{{f, good}, {good, f}, {f, f}} {
 			if touch, code := impl.CirclesTouch(pair[0], pair[1]); touch || code != impl.ErrInvalid {
 				t.Fatalf("CirclesTouch(%v, %v) = %v, %d", pair[0], pair[1], touch, code)
+			}
+		}
+	}
+}
+
+// TestPromise7Floor looks for each surd between its floor and the next integer, in numbers without limits and by
+// CompareSurd. Its other floors are the same one.
+func TestPromise7Floor(t *testing.T) {
+	compared := 0
+	for _, s := range allSurds() {
+		floor, code := impl.FloorSurd(s)
+		if code != impl.OK || !between(floor, s, floor+1) {
+			t.Fatalf("%v is not between its floor %d and the next integer: %d", s, floor, code)
+		}
+		if again, _, code := impl.NextSurd(s); again != floor || code != impl.OK {
+			t.Fatalf("the floor of %v is %d, or %d, %d by NextSurd", s, floor, again, code)
+		}
+		if terms, code := impl.TermsOfSurd(s, 1); !slices.Equal(terms, []int64{floor}) || code != impl.OK {
+			t.Fatalf("the floor of %v is %d, or %v, %d by TermsOfSurd", s, floor, terms, code)
+		}
+		if floor < -1e6 || floor >= 1e6 {
+			continue
+		}
+		compared++
+		low, lowCode := impl.CompareSurd(s, frac(floor, 1))
+		high, highCode := impl.CompareSurd(s, frac(floor+1, 1))
+		if low != 1 || high != -1 || lowCode != impl.OK || highCode != impl.OK {
+			t.Fatalf("%v with the floor %d is compared with it as %d, %d, and with the next integer as %d, %d", s, floor, low, lowCode, high, highCode)
+		}
+	}
+	if compared < 5000 {
+		t.Errorf("only %d surds were compared", compared)
+	}
+}
+
+// TestPromise7Terms looks for each surd between the value of its first terms and that of the same terms with the last
+// one greater by 1: this term is the floor of a next surd.
+func TestPromise7Terms(t *testing.T) {
+	for _, s := range slices.Concat(knownSurds, smallSurds(), mixedSurds(200)) {
+		for _, count := range []int64{2, 3, 10, 40} {
+			terms, code := impl.TermsOfSurd(s, count)
+			if int64(len(terms)) != count || code != impl.OK {
+				t.Fatalf("TermsOfSurd(%v, %d) = %v, %d", s, count, terms, code)
+			}
+			side := sideByRule(s, valueByRule(terms))
+			terms[count-1]++
+			other := sideByRule(s, valueByRule(terms))
+			// At an odd place, a greater term has a lesser value.
+			if want := 1 - 2*int(1-count%2); side != want || other != -want {
+				t.Fatalf("%v is not between the values of its terms %v and with the last one greater by 1", s, terms)
+			}
+		}
+	}
+}
+
+// solves tells whether (P + r) / Q solves an equation: its multiple by the square of Q has neither a rest nor an r.
+func solves(s impl.Surd, a, b, c int64) bool {
+	rest := sum(product(a, s.P, s.P), product(a, s.D), product(b, s.Q, s.P), product(c, s.Q, s.Q))
+	return rest.Sign() == 0 && sum(product(2, a, s.P), product(b, s.Q)).Sign() == 0
+}
+
+// TestPromise7Equation puts each surd and its conjugate into the equation, whose numbers have no common divisor.
+func TestPromise7Equation(t *testing.T) {
+	divided := 0
+	for _, s := range allSurds() {
+		a, b, c, code := impl.EquationOf(s)
+		if code != impl.OK || !solves(s, a, b, c) {
+			t.Fatalf("EquationOf(%v) = %d, %d, %d, %d", s, a, b, c, code)
+		}
+		g := new(big.Int).GCD(nil, nil, new(big.Int).Abs(big.NewInt(b)), new(big.Int).Abs(big.NewInt(c)))
+		if a < 1 || g.GCD(nil, nil, g, big.NewInt(a)).Int64() != 1 {
+			t.Fatalf("the equation %d, %d, %d of %v has a common divisor, or is not positive at first", a, b, c, s)
+		}
+		if a != s.Q && a != -s.Q {
+			divided++
+		}
+		other, code := impl.ConjugateOf(s)
+		d, e, f, otherCode := impl.EquationOf(other)
+		if code != impl.OK || otherCode != impl.OK || !solves(other, a, b, c) || d != a || e != b || f != c {
+			t.Fatalf("%v has the equation %d, %d, %d, and its conjugate %v has %d, %d, %d", s, a, b, c, other, d, e, f)
+		}
+	}
+	if divided < 500 {
+		t.Errorf("only %d equations had to be divided", divided)
+	}
+}
+
+// TestPromise7Invalid gives surds that are not plain, and fractions that cannot be compared.
+func TestPromise7Invalid(t *testing.T) {
+	for _, s := range slices.Concat(noSurds(), wideSurds()) {
+		if !surdByRule(s) {
+			surdErrors(t, s)
+		}
+	}
+	for _, f := range wideFractions() {
+		want := int64(impl.OK)
+		switch {
+		case !plainByRule(f):
+			want = impl.ErrInvalid
+		case f.Num < -1e6 || f.Num > 1e6 || f.Den > 1e6:
+			want = impl.ErrRange
+		}
+		for _, s := range knownSurds {
+			if side, code := impl.CompareSurd(s, f); code != want || (side == 0) != (want != impl.OK) {
+				t.Fatalf("CompareSurd(%v, %v) = %d, %d, want %d", s, f, side, code, want)
 			}
 		}
 	}
